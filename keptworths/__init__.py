@@ -1,0 +1,1 @@
+"""Keptworths: formulas kept in rows."""
