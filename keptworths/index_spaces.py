@@ -17,14 +17,15 @@ class IndexSpace(Space):
 
     def __init__(self, table, target, way, fault):
         editions = edition_lines(table)
-        Space.__init__(self, editions, table.plain, target, table.deeds())
+        Space.__init__(self, editions, table.plain, [target], table.deeds())
+        self._target = target
         self._way = way
         self._fault = fault
         self._truths = [self._truth(lines, target) for lines in editions]
         self._calm = [self._is_calm(now) for now in range(len(editions))]
 
     def steps(self, state):
-        """The steps from a state, in the order of their deeds."""
+        """The steps from a state that matter, in the order of their deeds."""
         return [] if state == CALM else self._steps[state[0]]
 
     def is_found(self, state):

@@ -1,4 +1,4 @@
-"""Spaces: the states of a row that matter for one of its columns, and the steps between them.
+"""Spaces: the states of a row that matter for some of its columns, its targets, and the steps between them.
 
 A worth in a state is None or (shape, values), or what else a space says. Values are told apart by numbers: the
 value that a plain column has now has the place of this column, values that have passed have greater numbers.
@@ -17,35 +17,42 @@ class Step:
         self.reckoned = reckoned
         self.now = now
 
+    def matters(self):
+        """Whether it can lead to another state."""
+        return self.deed in (("put",), ("edition",)) or len(self.given) + len(self.reckoned) > 0
+
 
 class Space:
     """What all spaces do alike. Each one says by itself what a plain worth is and how worths are joined, which
     state is behind a step, and what is looked for."""
 
-    def __init__(self, editions, plain, target, deeds):
+    def __init__(self, editions, plain, targets, deeds):
         self._editions = editions
         self._plain = plain
-        self._target = target
         columns = list(editions[0])
-        self._names = columns[:columns.index(target) + 1]
-        self._live = live_columns(editions, target)
-        self._steps = [self._steps_in(now, deeds) for now in range(len(editions))]
+        self._names = columns[:max([columns.index(target) for target in targets], default=-1) + 1]
+        self._live = live_columns(editions, targets)
+        self._all_steps = [self._steps_in(now, deeds) for now in range(len(editions))]
+        self._steps = [[step for step in steps.values() if step.matters()] for steps in self._all_steps]
 
     def first(self):
         """The state behind the first put."""
         return self.behind((0, (None,) * len(self._names), ()), self._steps[0][0])
 
+    def steps(self, state):
+        """The steps from a state that matter, in the order of their deeds."""
+        return self._steps[state[0]]
+
     def _steps_in(self, now, deeds):
-        steps = []
-        for deed in deeds[:-1]:
-            given = [self._plain.index(column) for column in given_columns(self._plain, deed) if column in self._plain]
-            touched = reckoned_columns(self._editions[now], deed)
-            reckoned = [column for column in touched if column in self._live[now]]
-            if given or reckoned or deed == ("put",):
-                steps.append(Step(deed, given, reckoned, now))
-        if now < len(self._editions) - 1:
-            steps.append(Step(deeds[-1], [], [], now + 1))
-        return steps
+        is_last = now == len(self._editions) - 1
+        return {deed: self._step(now, deed) for deed in (deeds[:-1] if is_last else deeds)}
+
+    def _step(self, now, deed):
+        if deed == ("edition",):
+            return Step(deed, [], [], now + 1)
+        given = [self._plain.index(column) for column in given_columns(self._plain, deed) if column in self._plain]
+        touched = reckoned_columns(self._editions[now], deed)
+        return Step(deed, given, [column for column in touched if column in self._live[now]], now)
 
     def _told(self, now, kept, column):
         lines = self._editions[now]
@@ -96,12 +103,12 @@ def renamed(worth, numbers):
     return (worth[0], tuple([numbers.get(value) for value in worth[1]]))
 
 
-def live_columns(editions, target):
-    """For each edition, the columns whose kept worths can matter to the target from then on."""
+def live_columns(editions, targets):
+    """For each edition, the columns whose kept worths can matter to the targets from then on."""
     live = []
     later = []
     for lines in editions[::-1]:
-        wanted = [target] + [column for column in later if is_kept(lines, column)]
+        wanted = targets + [column for column in later if is_kept(lines, column)]
         needed = _with_sources(lines, wanted)
         later = [column for column in lines if column in later or (column in needed and is_kept(lines, column))]
         live.append(later)

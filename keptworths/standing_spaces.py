@@ -6,30 +6,8 @@ spoilt, and so is all that is reckoned from it.
 """
 
 from keptworths.deeds import edition_lines
+from keptworths.shapes import Shapes
 from keptworths.spaces import Space, renamed
-
-
-class Shapes:
-    """The numbers of all parts of the true worths of a column by all editions."""
-
-    def __init__(self, editions, target):
-        self._found = {}
-        self.tops = [self._number(lines, target) for lines in editions]
-
-    def of_plain(self, column):
-        """The number of a plain column, None if it is in no true worth."""
-        return self._found.get(("plain", column))
-
-    def of_formula(self, formula, shapes):
-        """The number of a formula of parts, None if it is in no true worth."""
-        return self._found.get(("formula", formula, tuple(shapes)))
-
-    def _number(self, lines, column):
-        key = ("plain", column)
-        if column in lines:
-            formula, sources, _ = lines[column]
-            key = ("formula", formula, tuple([self._number(lines, source) for source in sources]))
-        return self._found.setdefault(key, len(self._found))
 
 
 class StandingSpace(Space):
@@ -41,16 +19,14 @@ class StandingSpace(Space):
 
     def __init__(self, table, target, wanted):
         editions = edition_lines(table)
+        self._target = target
         self._wanted = wanted
         self._spoilt = len(editions)
         # Whether a worth lacks does not hang on which worth it would be: without shapes, there are fewer states.
-        self._shapes = Shapes([] if wanted == ["lacks"] else editions, target)
+        self._shapes = Shapes([] if wanted == ["lacks"] else editions, [target])
+        self._tops = self._shapes.tops[target]
         plain = [column for column in table.plain if self._shapes.of_plain(column) is not None]
-        Space.__init__(self, editions, plain, target, table.deeds())
-
-    def steps(self, state):
-        """The steps from a state, in the order of their deeds."""
-        return self._steps[state[0]]
+        Space.__init__(self, editions, plain, [target], table.deeds())
 
     def is_found(self, state):
         """Whether the target has a standing that is looked for."""
@@ -78,9 +54,9 @@ class StandingSpace(Space):
             return "lacks"
         if isinstance(told, int):
             return "old" if told <= now else "nobody"
-        if told[0] == self._shapes.tops[now]:
+        if told[0] == self._tops[now]:
             return "now"
-        return "old" if told[0] in self._shapes.tops[:now] else "nobody"
+        return "old" if told[0] in self._tops[:now] else "nobody"
 
     def _sound(self, worth, pairs):
         if not isinstance(worth, tuple):
@@ -95,11 +71,10 @@ class StandingSpace(Space):
             return None
         if isinstance(sound, int):
             return max(now, sound)
-        tops = self._shapes.tops
-        if sound[0] not in tops:
+        if sound[0] not in self._tops:
             return self._spoilt
         is_fresh = all([value is None or 0 <= value < len(self._plain) for value in sound[1]])
-        return sound if is_fresh else max(now, tops.index(sound[0]))
+        return sound if is_fresh else max(now, self._tops.index(sound[0]))
 
     def _plain_worth(self, column):
         shape = self._shapes.of_plain(column)

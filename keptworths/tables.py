@@ -62,6 +62,11 @@ class Table:
         return [("put",)] + sets + rewrites + [("edition",)]
 
 
+def is_name(text):
+    """Whether a text can be the name of a column or a formula."""
+    return 1 <= len(text) <= LONGEST_NAME and all([sign in LETTERS for sign in text])
+
+
 def _columns(edition):
     return [line[0] for line in edition]
 
@@ -74,7 +79,7 @@ def _copied(editions):
 
 
 def _check_name(name):
-    if not 1 <= len(name) <= LONGEST_NAME or not all([sign in LETTERS for sign in name]):
+    if not is_name(name):
         raise InvalidName(name)
 
 

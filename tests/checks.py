@@ -1,6 +1,7 @@
 """What several tests ask for."""
 
 from keptworths.errors import WorthError
+from keptworths.tables import Table
 
 
 def lists_in(value):
@@ -38,3 +39,14 @@ def check_new_lists(case, tell):
     third = tell()
     case.assertFalse(any("spoilt" in item for item in lists_in(third)))
     return third
+
+
+def edition(*lines):
+    """Lines told as `c f ab stays`; what has no source is told with a dot."""
+    told = [line.split() for line in lines]
+    return [(column, formula, [] if sources == "." else list(sources), held) for column, formula, sources, held in told]
+
+
+def b_column(*lines):
+    """A table whose one reckoned column has these (formula, held), edition by edition."""
+    return Table(["a"], [[("b", formula, ["a"], held)] for formula, held in lines])

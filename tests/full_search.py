@@ -44,13 +44,16 @@ class State(Replay):
         return other
 
     def key(self, way):
-        """What of the state can matter later: entries are told again only if all their values are at hand."""
+        """What of the state can matter later, to the entries of a way, to what is "now", or to the standings: entries
+        are told again only if all their values are at hand."""
         numbers = {("plain", column, number): 0 for column, number in self.numbers.items()}
         columns = list(self.editions[0])
         for column in columns:
             for leaf in leaves(self.kept.get(column)):
                 numbers.setdefault(leaf, len(numbers))
         kept = tuple(renumbered(self.kept.get(column), numbers) for column in columns)
+        if way == "now":
+            return (self.edition, kept)
         if way:
             able = [entry for entry in self.entries[way] if all(leaf in numbers for leaf in leaves(entry))]
             return (self.edition, kept, frozenset(renumbered(entry, numbers) for entry in able))
@@ -61,6 +64,30 @@ class State(Replay):
             if any(moment[one[1]] == one[2] and moment[other[1]] == other[2] for moment in self.moments)
         )
         return (self.edition, kept, stood)
+
+
+class Pair:
+    """Two states with the same history, as one."""
+
+    def __init__(self, one, other):
+        self.both = (one, other)
+        self.edition = one.edition
+        self.editions = one.editions
+
+    def behind(self, deed):
+        return Pair(*[state.behind(deed) for state in self.both])
+
+    def is_unlike(self):
+        one, other = self.both
+        return any(one.told(column) != other.told(column) for column in one.editions[0])
+
+    def key(self, _):
+        numbers = {("plain", column, number): 0 for column, number in self.both[0].numbers.items()}
+        worths = [state.kept.get(column) for state in self.both for column in state.editions[0]]
+        for worth in worths:
+            for leaf in leaves(worth):
+                numbers.setdefault(leaf, len(numbers))
+        return (self.edition, tuple(renumbered(worth, numbers) for worth in worths))
 
 
 def search(start, deeds, told, wanted, most, way=None):

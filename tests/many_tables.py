@@ -49,6 +49,21 @@ def random_tables(seed, many, **bounds):
     return [random_table(chance, **bounds) for _ in range(many)]
 
 
+def held_otherwise(chance, editions, share):
+    """Editions with the same formulas, of which a share of the columns is held otherwise."""
+    return [
+        [line[:3] + (chance.choice(HELD) if chance.random() < share else line[3],) for line in edition]
+        for edition in editions
+    ]
+
+
+def random_pairs(seed, many, share, **bounds):
+    """Plain columns, and the editions of two tables that are unlike by how some columns are held."""
+    chance = random.Random(seed)
+    made = [random_table(chance, **bounds) for _ in range(many)]
+    return [(plain, editions, held_otherwise(chance, editions, share)) for plain, editions in made]
+
+
 def random_history(chance, deeds, editions, length):
     """A history of a length; its editions come where they may, in all parts of it."""
     passes = sorted(chance.sample(range(1, length), min(editions, length) - 1))

@@ -26,6 +26,27 @@ STANDINGS = """
 [['now', 'old', 'lacks'], [('put',), ('edition',)], [('put',), ('edition',), ('put',), ('edition',)], None, [('put',), ('set', 'a')], [('put',), ('set', 'a')]]
 """
 
+REWRITES_AND_COMPARE = """
+>>> from keptworths.compare import alike, first_unlike
+>>> from keptworths.rewrites import least, safe_orders, settled_at, settles, unsettled
+>>> from keptworths.tables import Table
+>>> table = Table(["a"], [[("b", "f", ["a"], "stays"), ("c", "h", ["b"], "stays")]])
+>>> [settles(table, [("rewrite", "b")]), unsettled(table, [("rewrite", "c"), ("rewrite", "b")]), least(table), safe_orders(table), settled_at(table, 0, [("put",)])]
+[False, [('put',), ('set', 'a')], [[('rewrite', 'b'), ('rewrite', 'c')]], [[('rewrite', 'b'), ('rewrite', 'c')]], True]
+>>> read, kept = Table(["a"], [[("b", "f", ["a"], "read")]]), Table(["a"], [[("b", "f", ["a"], "follows")]])
+>>> [alike(read, kept), first_unlike(read, Table(["a"], [[("b", "f", ["a"], "stays")]])), alike(read, Table(["a"], [[("b", "g", ["a"], "read")]])), least(read)]
+[True, [('put',), ('set', 'a')], False, [[]]]
+"""
+
+TEXTS_AND_READINGS = """
+>>> from keptworths.readings import read_history, read_table
+>>> from keptworths.tables import Table
+>>> from keptworths.texts import show_history, show_table
+>>> table = Table(["a", "d"], [[("b", "f", ["a", "d"], "stays"), ("c", "h", [], "read")]])
+>>> [show_table(table), show_history([("put",), ("set", "a"), ("edition",)]), read_table(show_table(table)) == table, read_history("put, rewrite b"), read_history("")]
+['plain a d; b = f(a d) stays, c = h() read', 'put, set a, edition', True, [('put',), ('rewrite', 'b')], []]
+"""
+
 
 class Examples(unittest.TestCase):
     def check(self, text, many):
@@ -38,6 +59,12 @@ class Examples(unittest.TestCase):
 
     def test_standings(self):
         self.check(STANDINGS, 6)
+
+    def test_rewrites_and_compare(self):
+        self.check(REWRITES_AND_COMPARE, 7)
+
+    def test_texts_and_readings(self):
+        self.check(TEXTS_AND_READINGS, 5)
 
 
 if __name__ == "__main__":

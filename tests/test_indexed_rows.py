@@ -1,6 +1,6 @@
 import unittest
 
-from checks import check_new_lists, check_raises
+from checks import b_column, check_new_lists, check_raises
 from keptworths.errors import InvalidDeed, InvalidKind, NothingToUndo, UnknownColumn
 from keptworths.rows import IndexedRow, Row
 from keptworths.tables import Table
@@ -10,11 +10,6 @@ PUT = ("put",)
 SET = ("set", "a")
 REWRITE = ("rewrite", "b")
 WAYS = ("told", "written", "reckoned")
-
-
-def b_column(*lines):
-    """A table whose one reckoned column has these (formula, held), edition by edition."""
-    return Table(["a"], [[("b", formula, ["a"], held)] for formula, held in lines])
 
 
 def worth(name, number):
@@ -194,6 +189,25 @@ class AsRow(unittest.TestCase):
             row(SET)
             row.undo()
             self.assertEqual(row.entries(), [worth("f", 1)])
+
+    def test_whether_it_is_asked_in_between_or_not(self):
+        table = b_column(("f", "stays"), ("g", "read"), ("g", "follows"))
+        deeds = [SET, REWRITE, "undo", REWRITE, EDITION, SET, EDITION, "undo", PUT, SET, EDITION]
+        deeds += [SET, REWRITE, "undo", SET]
+        for way in WAYS:
+            asked, silent = IndexedRow(table, "b", way), IndexedRow(table, "b", way)
+            for deed in deeds:
+                for row in (asked, silent):
+                    if deed == "undo":
+                        row.undo()
+                    else:
+                        row(deed)
+                asked.entries().append("spoilt")
+                faults(asked)
+                asked.told("b")
+            self.assertEqual((asked.entries(), faults(asked)), (silent.entries(), faults(silent)))
+            self.assertTrue(asked == silent)
+            self.assertEqual(done(table, way, *silent.history[1:]).entries(), silent.entries())
 
     def test_entries_are_new(self):
         row = done(b_column(("f", "stays")), "reckoned", SET, REWRITE)

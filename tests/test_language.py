@@ -45,6 +45,13 @@ INTERFACE = {
         "first": ["table", "column", "standing"], "comes": ["table", "column"], "always_now": ["table"],
         "first_missed": ["table", "column", "way"], "first_wrongly": ["table", "column", "way"],
     },
+    "rewrites": {
+        "settles": ["table", "deeds"], "unsettled": ["table", "deeds"], "least": ["table"],
+        "settled_at": ["table", "edition", "deeds"], "safe_orders": ["table"],
+    },
+    "compare": {"alike": ["one", "other"], "first_unlike": ["one", "other"]},
+    "texts": {"show_table": ["table"], "show_history": ["deeds"]},
+    "readings": {"read_table": ["text"], "read_history": ["text"]},
 }
 
 
@@ -112,12 +119,16 @@ class Files(unittest.TestCase):
 
     def test_statements_and_expressions(self):
         none = (
-            ast.AsyncFunctionDef, ast.Try, ast.Global, ast.Nonlocal, ast.Lambda, ast.GeneratorExp, ast.Div, ast.Yield,
-            ast.Starred, ast.With, ast.NamedExpr, ast.AnnAssign, ast.Delete,
+            ast.AsyncFunctionDef, ast.Global, ast.Nonlocal, ast.Lambda, ast.GeneratorExp, ast.Div, ast.Yield, ast.With,
+            ast.NamedExpr, ast.AnnAssign, ast.Delete,
         )
         self.assertEqual([(name, type(node).__name__, node.lineno) for name, node in self.nodes(*none)], [])
         for name, node in self.nodes(ast.Constant):
             self.assertNotIsInstance(node.value, (float, complex, bytes))
+
+    def test_only_own_errors_are_caught(self):
+        for name, node in self.nodes(ast.ExceptHandler):
+            self.assertIn(node.type.id, INTERFACE["errors"], (name, node.lineno))
 
     def test_names(self):
         # A doctest that ran before leaves its last answer as the builtin `_`.

@@ -22,8 +22,18 @@ class Readme(unittest.TestCase):
             "indexed.missed()": False,
             "indexed.wrongly()": True,
             "row.history": [("put",)],
+            'settles(table, [("rewrite", "b")])': True,
+            'unsettled(table, [("set", "a")])': [("put",)],
+            "settled_at(table, 1, [])": False,
+            "least(table)": [[("rewrite", "b")]],
+            "show_table(table)": "plain a; b = f(a) stays; b = g(a) stays",
+            "show_history(row.history)": "put",
+            'read_history("put, set a")': [("put",), ("set", "a")],
+            "alike(table, other)": False,
+            "first_unlike(table, other)": [("put",), ("edition",)],
         }
         for asked, answer in told.items():
+            self.assertIn(asked, code)
             self.assertEqual(eval(asked, names), answer)
         self.assertEqual(table.columns, ["b"])
 

@@ -318,6 +318,35 @@ class Equality(unittest.TestCase):
         row(("rewrite", "b"))
         self.assertFalse(row == other)
 
+    def test_however_the_row_came_to_its_history(self):
+        straight, winding = Row(one_plain("stays", "read")), Row(one_plain("stays", "read"))
+        for deed in (("set", "a"), EDITION):
+            straight(deed)
+        back, set_a = None, ("set", "a")
+        for deed in (EDITION, set_a, back, back, set_a, ("rewrite", "b"), back, EDITION, EDITION, PUT, back):
+            if deed is back:
+                winding.undo()
+            elif deed == EDITION and winding.edition == 1:
+                check_raises(self, InvalidDeed, deed, winding, deed)
+            else:
+                winding(deed)
+        self.assertEqual(winding.history, straight.history)
+        self.assertTrue(winding == straight)
+        self.assertFalse(winding != straight)
+        self.assertEqual([winding.told("b"), winding.standing("b")], [straight.told("b"), straight.standing("b")])
+
+    def test_several_rows_of_one_table(self):
+        table = one_plain("stays", "follows")
+        rows = [Row(table), Row(table), IndexedRow(table, "b", "told"), IndexedRow(table, "b", "written")]
+        self.assertTrue(rows[0] == rows[1])
+        rows[0](("set", "a"))
+        rows[2](EDITION)
+        self.assertEqual([row.history[1:] for row in rows], [[("set", "a")], [], [EDITION], []])
+        self.assertEqual([row.told("a") for row in rows], [plain(2), plain(1), plain(1), plain(1)])
+        self.assertEqual([row.edition for row in rows], [0, 0, 1, 0])
+        self.assertFalse(rows[0] == rows[1])
+        self.assertEqual(table, one_plain("stays", "follows"))
+
     def test_nothing_else(self):
         row = Row(one_plain("stays"))
         for other in (None, 0, [PUT], one_plain("stays"), IndexedRow(one_plain("stays"), "b", "told"), object()):

@@ -1,7 +1,7 @@
 import copy
 import unittest
 
-from checks import check_new_lists, check_raises
+from checks import b_column, check_new_lists, check_raises
 from keptworths.errors import InvalidKind, UnknownColumn
 from keptworths.rows import IndexedRow, Row
 from keptworths.standings import always_now, comes, first, first_missed, first_wrongly
@@ -13,10 +13,6 @@ PUT = ("put",)
 SET = ("set", "a")
 STANDINGS = ("now", "old", "lacks", "nobody")
 WAYS = ("told", "written", "reckoned")
-
-
-def b_column(*lines):
-    return Table(["a"], [[("b", formula, ["a"], held)] for formula, held in lines])
 
 
 class First(unittest.TestCase):

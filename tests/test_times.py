@@ -1,20 +1,17 @@
-"""Each question of standings.py comes to an answer at the bounds of the document, and soon."""
+"""Each question about all histories comes to an answer at the bounds of the document, and soon."""
 
 import time
 import unittest
 
+from checks import edition
+from keptworths.compare import alike
+from keptworths.rewrites import least, safe_orders, settles, unsettled
 from keptworths.standings import always_now, comes, first, first_missed, first_wrongly
 from keptworths.tables import Table
-from many_tables import random_tables
+from many_tables import random_pairs, random_tables
 
 LONGEST = 2.0
 SMALL = 0.2
-
-
-def edition(*lines):
-    """Lines told as `c f ab stays`; what has no source is told with a dot."""
-    told = [line.split() for line in lines]
-    return [(column, formula, [] if sources == "." else list(sources), held) for column, formula, sources, held in told]
 
 
 # Found by going from table to table towards more states: no table is known that takes longer.
@@ -46,6 +43,20 @@ HARD = [
     ],
 ]
 
+# Found likewise, towards more states of two rows.
+HARD_BESIDE_THEMSELVES = [
+    [
+        edition("c v b stays", "d u bc follows", "e u ba stays"),
+        edition("c u ba stays", "d v cb follows", "e v cd follows"),
+        edition("c v ab stays", "d v c follows", "e u dc follows"),
+    ],
+    [
+        edition("c u b stays", "d v bc follows", "e w . read"),
+        edition("c u ba stays", "d u cb follows", "e v cd follows"),
+        edition("c u a stays", "d v cb follows", "e u dc stays"),
+    ],
+]
+
 
 def questions(table):
     """All questions of a table, as (how it is called, its arguments)."""
@@ -57,33 +68,36 @@ def questions(table):
         for way in ("told", "written", "reckoned"):
             yield first_missed, (table, column, way)
             yield first_wrongly, (table, column, way)
+    yield unsettled, (table, [])
+    yield settles, (table, table.deeds()[:-1] * 2)
+    yield least, (table,)
+    yield safe_orders, (table,)
+    yield alike, (table, table)
 
 
-def times(table):
-    """How long each question takes."""
-    found = []
-    for question, arguments in questions(table):
-        begun = time.perf_counter()
-        question(*arguments)
-        found.append(time.perf_counter() - begun)
-    return found
+def time_of(question, *arguments):
+    """How long a question takes."""
+    begun = time.perf_counter()
+    question(*arguments)
+    return time.perf_counter() - begun
 
 
 class Times(unittest.TestCase):
     def check(self, made):
         longest = []
         for plain, editions in made:
-            longest.append(max(times(Table(plain, editions))))
+            table = Table(plain, editions)
+            longest.append(max(time_of(question, *arguments) for question, arguments in questions(table)))
             self.assertLess(longest[-1], LONGEST, editions)
         return longest
 
     def test_many_tables(self):
-        longest = self.check(random_tables(41, 400, plain=2, columns=3, editions=3, sources=2))
+        longest = self.check(random_tables(41, 150, plain=2, columns=3, editions=3, sources=2))
         self.assertLess(sorted(longest)[len(longest) * 9 // 10], SMALL)
 
     def test_columns_that_come_from_both_plain_ones_by_others(self):
         made = []
-        for plain, editions in random_tables(42, 400, plain=2, columns=3, editions=3, sources=2):
+        for plain, editions in random_tables(42, 150, plain=2, columns=3, editions=3, sources=2):
             whole = [[("c", edition[0][1], ["a", "b"], edition[0][3])] + edition[1:] for edition in editions]
             last = [edition[:2] + [("e", edition[2][1], ["d", "c"], edition[2][3])] for edition in whole]
             made += [(plain, whole), (plain, last)]
@@ -91,7 +105,11 @@ class Times(unittest.TestCase):
         self.assertLess(sorted(longest)[len(longest) * 9 // 10], SMALL)
 
     def test_hard_tables(self):
-        self.check([(["a", "b"], editions) for editions in HARD])
+        self.check([(["a", "b"], editions) for editions in HARD + HARD_BESIDE_THEMSELVES])
+
+    def test_two_tables(self):
+        for plain, editions, others in random_pairs(43, 300, 0.1, plain=2, columns=3, editions=3, sources=2):
+            self.assertLess(time_of(alike, Table(plain, editions), Table(plain, others)), LONGEST, (editions, others))
 
 
 if __name__ == "__main__":
